@@ -1,0 +1,1 @@
+"""formflow: a form engine with conditional fields, rows, and copies that work offline."""

@@ -1,0 +1,41 @@
+"""The interface: each name with its arguments, in the file that lists it."""
+
+import importlib
+import inspect
+import pathlib
+import unittest
+
+FOLDER = pathlib.Path(__file__).resolve().parent.parent / "formflow"
+
+INTERFACE = {
+    "errors": {
+        "FlowError": None, "BadText": ["token", "reason"], "BadLine": ["line"], "BadForm": None,
+        "BadEdit": ["reason"], "BadMerge": ["reason"], "BadSaved": ["line"],
+        "BadTemplate": ["place", "reason"], "BadArgument": ["reason"], "BadJournal": ["place"],
+    },
+    "values": {"is_name": ["text"], "code_of": ["value"], "value_of": ["code"], "is_value": ["thing"]},
+    "reading": {"parse_expression": ["text"]},
+}
+
+
+class InterfaceTest(unittest.TestCase):
+    def test_names_stand_in_their_files(self):
+        for file, names in INTERFACE.items():
+            module = importlib.import_module(f"formflow.{file}")
+            for name in names:
+                self.assertEqual(getattr(module, name).__module__, f"formflow.{file}", name)
+
+    def test_arguments(self):
+        for file, names in INTERFACE.items():
+            module = importlib.import_module(f"formflow.{file}")
+            for name, arguments in names.items():
+                if arguments is not None:
+                    found = inspect.signature(getattr(module, name)).parameters
+                    self.assertEqual(list(found), arguments, name)
+
+    def test_top_of_the_package(self):
+        self.assertTrue((FOLDER / "__init__.py").is_file())
+
+
+if __name__ == "__main__":
+    unittest.main()

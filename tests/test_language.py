@@ -1,0 +1,149 @@
+"""Those of the language's rules that can be seen in the files of the package."""
+
+import ast
+import pathlib
+import re
+import unittest
+
+FOLDER = pathlib.Path(__file__).resolve().parent.parent / "formflow"
+FILES = sorted(FOLDER.rglob("*.py"))
+LIBRARY = {
+    "heapq": {"heappush", "heappop", "heapify", "heapreplace", "heappushpop"},
+    "math": {"gcd", "lcm", "isqrt", "comb", "perm", "factorial"},
+    "itertools": {"product", "combinations", "permutations", "chain", "accumulate", "pairwise", "islice", "zip_longest"},
+    "collections": {"defaultdict", "deque"},
+}
+BUILTINS = set(
+    "len range enumerate zip min max sum abs sorted reversed int str bool bytes list tuple dict set frozenset isinstance "
+    "ord repr any all divmod pow getattr hasattr setattr iter next type map super print property staticmethod classmethod "
+    "Exception ValueError TypeError KeyError IndexError LookupError ZeroDivisionError ArithmeticError OverflowError "
+    "RuntimeError NotImplementedError AttributeError StopIteration NotImplemented".split())
+METHODS = set(
+    "append clear copy count endswith extend find get index insert isalnum isalpha isdigit islower isspace isupper items "
+    "join keys ljust lower lstrip partition pop remove replace reverse rfind rjust rpartition rsplit rstrip setdefault "
+    "split splitlines startswith strip update upper values zfill bit_length title capitalize swapcase casefold center "
+    "expandtabs removeprefix removesuffix rindex isascii isdecimal isnumeric istitle isidentifier isprintable translate "
+    "sort format add discard".split())
+WORDS = set(
+    "type typing typing_extensions enum Enum IntEnum StrEnum Flag IntFlag Generic Protocol ABC ABCMeta namedtuple "
+    "NamedTuple TypedDict TYPE_CHECKING abstractmethod".split())
+NAMES = set(
+    "register mro elements open input law version_info with_traceback add_note attrgetter breakpoint builtins compile "
+    "copyright credits delattr dir eval exec exit gc globals help id importlib license locals methodcaller os quit vars "
+    "hash map round filter format object callable slice float complex".split())
+STATEMENTS = (
+    ast.Assign, ast.AugAssign, ast.AnnAssign, ast.If, ast.While, ast.For, ast.Return, ast.Break, ast.Continue, ast.Pass,
+    ast.Raise, ast.Assert, ast.Delete, ast.Nonlocal, ast.Match, ast.With, ast.Try, ast.Expr, ast.FunctionDef,
+    ast.ClassDef, ast.ImportFrom, ast.Global)
+
+
+def files_with_trees():
+    for file in FILES:
+        text = file.read_text(encoding="utf-8")
+        yield file.name, text, ast.parse(text)
+
+
+def docstrings(tree):
+    """The nodes of the docstrings of a file."""
+    found = set()
+    for node in ast.walk(tree):
+        if isinstance(node, (ast.Module, ast.ClassDef, ast.FunctionDef)) and ast.get_docstring(node) is not None:
+            found.add(node.body[0].value)
+    return found
+
+
+def strings(tree):
+    """The strings of a file that are no docstrings."""
+    told = docstrings(tree)
+    return [node.value for node in ast.walk(tree)
+            if isinstance(node, ast.Constant) and isinstance(node.value, str) and node not in told]
+
+
+def bound_names(tree):
+    """Names of variables, parameters, functions and classes."""
+    for node in ast.walk(tree):
+        if isinstance(node, ast.Name) and not isinstance(node.ctx, ast.Load):
+            yield node.id
+        elif isinstance(node, ast.arg):
+            yield node.arg
+        elif isinstance(node, (ast.FunctionDef, ast.ClassDef)):
+            yield node.name
+
+
+class LanguageTest(unittest.TestCase):
+    def test_folder_has_nothing_else(self):
+        others = [path for path in FOLDER.rglob("*") if path.is_file() and path.suffix != ".py"
+                  and "__pycache__" not in path.parts]
+        self.assertEqual(others, [])
+        for file in FILES:
+            self.assertTrue(re.fullmatch(r"[a-z0-9_]+\.py", file.name), file)
+
+    def test_sizes_and_characters(self):
+        for name, text, tree in files_with_trees():
+            lines = text.split("\n")
+            self.assertLessEqual(len(lines) - 1, 399, name)
+            self.assertLessEqual(max(map(len, lines)), 120, name)
+            self.assertTrue(all(" " <= sign <= "~" or sign == "\n" for sign in text), name)
+            for node in ast.walk(tree):
+                if isinstance(node, ast.FunctionDef):
+                    self.assertLessEqual(node.end_lineno - node.lineno + 1, 40, node.name)
+
+    def test_imports(self):
+        for name, _, tree in files_with_trees():
+            for node in ast.walk(tree):
+                self.assertNotIsInstance(node, ast.Import, name)
+                if isinstance(node, ast.ImportFrom):
+                    self.assertEqual(node.level, 0, name)
+                    told = {alias.name for alias in node.names}
+                    if node.module in LIBRARY:
+                        self.assertLessEqual(told, LIBRARY[node.module], name)
+                    else:
+                        self.assertTrue(node.module.startswith("formflow."), node.module)
+
+    def test_no_imports_in_a_ring(self):
+        reads = {}
+        for name, _, tree in files_with_trees():
+            reads[name[:-3]] = [node.module.split(".")[-1] for node in tree.body if isinstance(node, ast.ImportFrom)
+                                and node.module.startswith("formflow.")]
+        while reads:
+            free = [name for name in reads if not any(other in reads for other in reads[name])]
+            self.assertTrue(free, reads)
+            for name in free:
+                del reads[name]
+
+    def test_statements(self):
+        for name, _, tree in files_with_trees():
+            for node in ast.walk(tree):
+                if isinstance(node, ast.stmt):
+                    self.assertIsInstance(node, STATEMENTS, name)
+            for node in tree.body:
+                self.assertIsInstance(node, (ast.Expr, ast.ImportFrom, ast.FunctionDef, ast.ClassDef, ast.Assign), name)
+
+    def test_names_and_methods(self):
+        known = set(BUILTINS) | METHODS
+        for _, _, tree in files_with_trees():
+            known |= set(bound_names(tree))
+            known |= {alias.name for node in ast.walk(tree) if isinstance(node, ast.ImportFrom) for alias in node.names}
+        for name, _, tree in files_with_trees():
+            for word in bound_names(tree):
+                self.assertNotIn(word, NAMES | BUILTINS, name)
+                self.assertTrue(re.fullmatch(r"_|_?[A-Za-z][A-Za-z0-9_]*|__[a-z]+__", word), word)
+            for node in ast.walk(tree):
+                if isinstance(node, ast.Call):
+                    called = node.func.id if isinstance(node.func, ast.Name) else getattr(node.func, "attr", None)
+                    self.assertTrue(called in known or called == "__init__", (name, called))
+
+    def test_values(self):
+        for name, _, tree in files_with_trees():
+            for node in ast.walk(tree):
+                self.assertNotIsInstance(node, (ast.Div, ast.Await), name)
+                if isinstance(node, ast.Constant):
+                    self.assertNotIsInstance(node.value, (float, complex), name)
+            for text in strings(tree):
+                self.assertNotIn("%", text, name)
+                self.assertFalse(WORDS & set(re.findall(r"\w+", text)), text)
+                self.assertFalse(text.endswith(("._", ".__")), text)
+
+
+if __name__ == "__main__":
+    unittest.main()

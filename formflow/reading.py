@@ -1,33 +1,11 @@
 """Reads texts of expressions (t1, t2, t3)."""
 
 from formflow.errors import BadText
+from formflow.levels import IF_LEVEL, MINUS_LEVEL, NOT_LEVEL, SIGNS, STRONGEST
 from formflow.tokens import is_number_token, is_option_token, tokens_of
 from formflow.values import is_name
 
 LONGEST_TEXT = 150
-
-# The levels of t2: those of the forms with a word or a sign ahead ..
-IF_LEVEL = 0
-NOT_LEVEL = 3
-MINUS_LEVEL = 8
-STRONGEST = 9
-
-# .. and those of the signs between two operands, each with the weakest
-# levels that may stand on its left and on its right.
-SIGNS = {
-    "or": (1, 1, 2),
-    "and": (2, 2, 3),
-    "=": (4, 5, 5),
-    "<>": (4, 5, 5),
-    "<": (4, 5, 5),
-    "<=": (4, 5, 5),
-    ">": (4, 5, 5),
-    ">=": (4, 5, 5),
-    "+": (5, 5, 6),
-    "-": (5, 5, 6),
-    "*": (6, 6, 7),
-    "??": (7, 7, 8),
-}
 LITERALS = {"yes": ("truth", True), "no": ("truth", False), "row": ("row",)}
 FUNCTIONS = ("answered", "count", "sum", "any", "all", "least", "greatest")
 

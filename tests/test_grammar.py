@@ -8,6 +8,7 @@ from formflow.reading import parse_expression
 from grammar import Earley, random_text
 
 FEW = ("a", "sum", "has", "'o'", "not", "-", "=", "+", "??", "or", "(", ")", ",", "if", "then", "else")
+ODD = ("?", "'", "''", "!", "A", "10000", "01", "abcdefg", "'row'", "'abcdefg'", ".", ";", "_")
 MANY = FEW + ("1", "yes", "row", "and", "<>", "<", "<=", ">", ">=", "*", "count", "any")
 
 
@@ -51,6 +52,18 @@ class GrammarTest(unittest.TestCase):
                 token = pick.choice(MANY)
                 if self.check_step(known, tokens + [token]):
                     tokens.append(token)
+
+    def test_tokens_that_fit_nowhere(self):
+        pick = random.Random(6)
+        for _ in range(1500):
+            tokens, _ = random_text(pick, 0, 3)
+            place = pick.randrange(len(tokens) + 1)
+            # What is told of these two without a bracket behind them is left open by the document.
+            if tokens[place - 1:place] in (["answered"], ["greatest"]):
+                continue
+            row = tokens[:place] + [pick.choice(ODD)] + tokens[place:]
+            if len(" ".join(row)) <= 150:
+                self.assertEqual(refusal(row), (place + 1, "unexpected token"), row)
 
     def test_shapes(self):
         pick = random.Random(2)

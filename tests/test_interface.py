@@ -15,6 +15,13 @@ INTERFACE = {
     },
     "values": {"is_name": ["text"], "code_of": ["value"], "value_of": ["code"], "is_value": ["thing"]},
     "reading": {"parse_expression": ["text"]},
+    "writing": {"expression_text": ["expression"]},
+    "meaning": {"meaning": ["expression", "names", "rows", "number"]},
+    "forms": {
+        "fields_of": ["form"], "section_of": ["form", "name"], "field_of": ["form", "name"],
+        "names_in": ["expression"], "expressions_of": ["field"],
+    },
+    "formtext": {"form_text": ["form"], "parse_form": ["text"]},
 }
 
 

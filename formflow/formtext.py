@@ -111,7 +111,7 @@ def parse_form(text):
             fields[-1].append(_read_field(number, line))
     if lines[-1] != "" or not any(fields):
         raise BadLine(len(lines))
-    return tuple(head + (tuple(row),) for head, row in zip(heads, fields))
+    return tuple([head + (tuple(row),) for head, row in zip(heads, fields)])
 
 
 def _read_section(number, line, count):

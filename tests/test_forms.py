@@ -39,7 +39,8 @@ class FormsTest(unittest.TestCase):
             self.assertIsNone(field_of(self.form, name))
 
     def test_first_one_with_a_name(self):
-        form = parse_form("section a\nquestion x; truth\nquestion x; text 3\nsection a; repeats 1\nquestion x; integer\n")
+        form = parse_form("section a\nquestion x; truth\nquestion x; text 3\n"
+                          "section a; repeats 1\nquestion x; integer\n")
         self.assertEqual(section_of(form, "a"), form[0])
         self.assertEqual(field_of(form, "x"), form[0][3][0])
         self.assertEqual(field_of(form[1:], "x"), form[1][3][0])

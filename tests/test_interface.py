@@ -22,6 +22,18 @@ INTERFACE = {
         "names_in": ["expression"], "expressions_of": ["field"],
     },
     "formtext": {"form_text": ["form"], "parse_form": ["text"]},
+    "issues": {"issues": ["form"], "kind_in": ["form", "section", "field", "expression"]},
+    "entries": {
+        "newer": ["one", "other"], "heap": ["entries"], "merge_versions": ["one", "other"],
+        "covers": ["version", "entry"], "entry_at": ["entries", "name", "row"],
+    },
+    "state": {
+        "work_out": ["form", "entries"], "accepts": ["form", "state", "path", "value"], "state_at": ["state", "path"],
+    },
+    "reach": {
+        "dependents": ["form", "names"], "renew": ["form", "old", "entries", "names"],
+        "report": ["old_form", "old", "form", "new"],
+    },
 }
 
 

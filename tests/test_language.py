@@ -1,6 +1,7 @@
 """Those of the language's rules that can be seen in the files of the package."""
 
 import ast
+import builtins
 import pathlib
 import re
 import unittest
@@ -70,6 +71,16 @@ def bound_names(tree):
             yield node.name
 
 
+def imported_names(tree):
+    return {alias.name for node in ast.walk(tree) if isinstance(node, ast.ImportFrom) for alias in node.names}
+
+
+def inner_names(tree):
+    """Names that are bound within functions: parameters and variables."""
+    return {name for node in ast.walk(tree) if isinstance(node, (ast.FunctionDef, ast.Lambda))
+            for name in bound_names(node) if name != getattr(node, "name", None)}
+
+
 class LanguageTest(unittest.TestCase):
     def test_folder_has_nothing_else(self):
         others = [path for path in FOLDER.rglob("*") if path.is_file() and path.suffix != ".py"
@@ -132,6 +143,45 @@ class LanguageTest(unittest.TestCase):
                 if isinstance(node, ast.Call):
                     called = node.func.id if isinstance(node.func, ast.Name) else getattr(node.func, "attr", None)
                     self.assertTrue(called in known or called == "__init__", (name, called))
+
+    def test_one_meaning_for_each_name(self):
+        for name, _, tree in files_with_trees():
+            top = [node.name for node in tree.body if isinstance(node, (ast.FunctionDef, ast.ClassDef))]
+            top += [target.id for node in tree.body if isinstance(node, ast.Assign) for target in node.targets]
+            top += sorted(imported_names(tree))
+            self.assertEqual(len(top), len(set(top)), name)
+            self.assertFalse(set(top) & inner_names(tree), name)
+            self.assertFalse((set(top) | inner_names(tree)) & set(dir(builtins)), name)
+
+    def test_imports_are_used(self):
+        for name, _, tree in files_with_trees():
+            used = {node.id for node in ast.walk(tree) if isinstance(node, ast.Name)}
+            self.assertFalse(imported_names(tree) - used, name)
+
+    def test_names_come_from_the_file_that_defines_them(self):
+        defined = {}
+        for name, _, tree in files_with_trees():
+            defined[f"formflow.{name[:-3]}"] = {
+                word for node in tree.body if isinstance(node, (ast.FunctionDef, ast.ClassDef, ast.Assign))
+                for word in bound_names(node)}
+        for name, _, tree in files_with_trees():
+            for node in tree.body:
+                if isinstance(node, ast.ImportFrom) and node.module not in LIBRARY:
+                    self.assertLessEqual({alias.name for alias in node.names}, defined[node.module], name)
+
+    def test_what_stands_beside_is(self):
+        for name, _, tree in files_with_trees():
+            for node in ast.walk(tree):
+                if isinstance(node, ast.Compare) and isinstance(node.ops[0], (ast.Is, ast.IsNot)):
+                    other = node.comparators[0]
+                    self.assertTrue(isinstance(other, ast.Constant) and other.value in (None, True, False), name)
+
+    def test_tables_have_no_lists_or_dicts_in_them(self):
+        for name, _, tree in files_with_trees():
+            for node in tree.body:
+                if isinstance(node, ast.Assign):
+                    inner = [part for part in ast.walk(node.value) if part is not node.value]
+                    self.assertFalse([part for part in inner if isinstance(part, (ast.List, ast.Dict, ast.Set))], name)
 
     def test_values(self):
         for name, _, tree in files_with_trees():

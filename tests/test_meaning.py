@@ -7,14 +7,10 @@ import model
 from formflow.meaning import meaning
 from formflow.reading import parse_expression
 from shapes import random_expression
+from states import NO, YES, number
 
-YES, NO = ("truth", True), ("truth", False)
 ONE_OF_EACH = (YES, ("number", 3), ("option", "o"), ("options", ("o", "p")), ("text", "yes"))
 MILLION = 1000000
-
-
-def number(worth):
-    return ("number", worth)
 
 
 def come_to(text, names=None, rows=None, at=None):

@@ -38,6 +38,21 @@ def entry_at(entries, name, row):
     return None
 
 
+def uncovered(version, entries):
+    """The entries of a heap that a version does not cover, in order."""
+    return tuple(entry for entry in entries if not covers(version, entry))
+
+
+def placed_rows(entries, section):
+    """The rows of a section that have a position in a heap, as (position, row), in order."""
+    found = []
+    for name, row, _, _, value in entries:
+        # A row without an id can be left from an edition in which the name was that of a question.
+        if name == section and row != "" and value is not None and value[0] == "number":
+            found.append((value[1], row))
+    return sorted(found)
+
+
 def _age_of(entry):
     """What tells of two entries at one path which one is newer."""
     return (entry[2], entry[3], code_of(entry[4]))

@@ -4,6 +4,7 @@ LETTERS = "abcdefghijklmnopqrstuvwxyz"
 DIGITS = "0123456789"
 RESERVED = ("if", "then", "else", "or", "and", "not", "yes", "no", "row")
 LONGEST_NAME = 6
+LONGEST_ROW = 8
 MOST_DIGITS = 100
 GREATEST_ENTRY = 9999
 
@@ -15,6 +16,11 @@ def is_name(text):
     if not 1 <= len(text) <= LONGEST_NAME or text[0] not in LETTERS:
         return False
     return all(sign in LETTERS or sign in DIGITS for sign in text)
+
+
+def is_row(text):
+    """Whether a text is the id of a row of a section that repeats."""
+    return 1 <= len(text) <= LONGEST_ROW and all(sign in LETTERS or sign in DIGITS for sign in text)
 
 
 def is_numeral(text):

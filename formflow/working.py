@@ -1,6 +1,7 @@
 """Works out states (s1 to s6), all of a state or just a part of it."""
 
 from formflow.answers import accepts_none, holds, is_accepted, value_in
+from formflow.entries import placed_rows
 
 HIDDEN = (False, None, False, False)
 
@@ -55,17 +56,7 @@ def _state_of_section(section, entries, environment):
         return (name, False, ())
     if most == 0:
         return (name, True, ("",))
-    return (name, True, tuple(_rows_with_position(name, entries)[:most]))
-
-
-def _rows_with_position(name, entries):
-    """The rows of a section that have a position, in order."""
-    places = []
-    for other, row, _, _, value in entries:
-        # A row without an id can be left from an edition in which the name was that of a question.
-        if other == name and row != "" and value is not None and value[0] == "number":
-            places.append((value[1], row))
-    return [row for _, row in sorted(places)]
+    return (name, True, tuple([row for _, row in placed_rows(entries, name)][:most]))
 
 
 def _state_of_field(field, environment, value):

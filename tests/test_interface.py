@@ -5,6 +5,8 @@ import inspect
 import pathlib
 import unittest
 
+from formflow.response import Response
+
 FOLDER = pathlib.Path(__file__).resolve().parent.parent / "formflow"
 
 INTERFACE = {
@@ -34,6 +36,23 @@ INTERFACE = {
         "dependents": ["form", "names"], "renew": ["form", "old", "entries", "names"],
         "report": ["old_form", "old", "form", "new"],
     },
+    "completeness": {
+        "missing": ["form", "state"], "broken": ["form", "state"], "faulty": ["form", "state"],
+        "progress": ["form", "state"],
+    },
+    "response": {"Response": ["document", "replica", "form"]},
+    "copies": {
+        "delta": ["document", "since", "version", "entries"], "merged": ["document", "entries", "version", "given"],
+    },
+    "saved": {"save": ["response"], "load": ["text", "replica", "form"], "check_sum": ["text"]},
+}
+
+METHODS = {
+    "Response": {
+        "put": ["path", "value"], "clear": ["path"], "remove": ["section", "row"], "order": ["section", "rows"],
+        "add": ["section"], "undo": [], "redo": [], "entries": [], "version": [], "state": [], "form": [], "document": [],
+        "replica": [], "since": ["version"], "merge": ["delta"], "change_form": ["form"], "journal": [],
+    },
 }
 
 
@@ -51,6 +70,13 @@ class InterfaceTest(unittest.TestCase):
                 if arguments is not None:
                     found = inspect.signature(getattr(module, name)).parameters
                     self.assertEqual(list(found), arguments, name)
+
+    def test_methods_stand_in_their_classes(self):
+        for made in (Response,):
+            for name, arguments in METHODS[made.__name__].items():
+                self.assertIn(name, vars(made))
+                found = inspect.signature(vars(made)[name]).parameters
+                self.assertEqual(list(found)[1:], arguments, name)
 
     def test_top_of_the_package(self):
         self.assertTrue((FOLDER / "__init__.py").is_file())

@@ -151,7 +151,8 @@ class LanguageTest(unittest.TestCase):
             top += sorted(imported_names(tree))
             self.assertEqual(len(top), len(set(top)), name)
             self.assertFalse(set(top) & inner_names(tree), name)
-            self.assertFalse((set(top) | inner_names(tree)) & set(dir(builtins)), name)
+            # Doctests of other files leave a "_" among the builtins.
+            self.assertFalse((set(top) | inner_names(tree)) & (set(dir(builtins)) - {"_"}), name)
 
     def test_imports_are_used(self):
         for name, _, tree in files_with_trees():
@@ -182,6 +183,16 @@ class LanguageTest(unittest.TestCase):
                 if isinstance(node, ast.Assign):
                     inner = [part for part in ast.walk(node.value) if part is not node.value]
                     self.assertFalse([part for part in inner if isinstance(part, (ast.List, ast.Dict, ast.Set))], name)
+
+    def test_methods_are_no_attributes(self):
+        for name, _, tree in files_with_trees():
+            for made in ast.walk(tree):
+                if isinstance(made, ast.ClassDef):
+                    methods = [node.name for node in made.body if isinstance(node, ast.FunctionDef)]
+                    stored = {node.attr for node in ast.walk(made)
+                              if isinstance(node, ast.Attribute) and not isinstance(node.ctx, ast.Load)}
+                    self.assertEqual(len(methods), len(set(methods)), (name, made.name))
+                    self.assertFalse(stored & set(methods), (name, made.name))
 
     def test_values(self):
         for name, _, tree in files_with_trees():

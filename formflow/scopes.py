@@ -63,6 +63,15 @@ def places_of(form):
     return places
 
 
+def scope_behind(form, section):
+    """What may be read behind the last section of a right form; in a row of a section, if one is told, too (p2)."""
+    behind = places_of(form)[-1][2]
+    if section is None:
+        return behind
+    own = {field[1]: behind.over[field[1]] for field in section[3] if field[1] in behind.over}
+    return Scope({**behind.names, **own}, behind.over, behind.counted, True)
+
+
 def kind_at(scope, expression):
     """The kind of an expression where it has this scope, or None."""
     return fold(expression, lambda part, kinds: _kind_of_part(part, kinds, scope))

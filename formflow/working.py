@@ -34,12 +34,13 @@ def work(form, entries, kept_sections, kept_fields):
 def environment_of(state, section, row):
     """What expressions see of a state in a row of a section: names, rows, number of the row.
 
-    For the condition of a section, that is not in the state yet, the row is "".
+    For the condition of a section, that is not in the state yet, the row is "";
+    behind the last section it is, too, and the section is None.
     """
     names, rows, number = {}, {}, None
     for name, _, active in state[0]:
         rows[name] = (None,) * len(active)
-        if name == section[0] and section[2] > 0:
+        if section is not None and name == section[0] and section[2] > 0:
             number = active.index(row) + 1
     for (name, at), (visible, value, _, _) in state[1]:
         # Another section can have a row of this id, too: a right form reads nothing of it by name.

@@ -5,6 +5,7 @@ import inspect
 import pathlib
 import unittest
 
+from formflow.interviews import Interview
 from formflow.response import Response
 
 FOLDER = pathlib.Path(__file__).resolve().parent.parent / "formflow"
@@ -45,6 +46,10 @@ INTERFACE = {
         "delta": ["document", "since", "version", "entries"], "merged": ["document", "entries", "version", "given"],
     },
     "saved": {"save": ["response"], "load": ["text", "replica", "form"], "check_sum": ["text"]},
+    "editions": {"changed": ["form", "other"]},
+    "interviews": {"Interview": ["response"]},
+    "templates": {"check_template": ["form", "template"], "write": ["response", "template"]},
+    "journal": {"replay": ["document", "replica", "form", "text"]},
 }
 
 METHODS = {
@@ -53,6 +58,7 @@ METHODS = {
         "add": ["section"], "undo": [], "redo": [], "entries": [], "version": [], "state": [], "form": [], "document": [],
         "replica": [], "since": ["version"], "merge": ["delta"], "change_form": ["form"], "journal": [],
     },
+    "Interview": {"asked": [], "answer": ["value"], "pass_over": [], "outcome": []},
 }
 
 
@@ -72,7 +78,7 @@ class InterfaceTest(unittest.TestCase):
                     self.assertEqual(list(found), arguments, name)
 
     def test_methods_stand_in_their_classes(self):
-        for made in (Response,):
+        for made in (Response, Interview):
             for name, arguments in METHODS[made.__name__].items():
                 self.assertIn(name, vars(made))
                 found = inspect.signature(vars(made)[name]).parameters
